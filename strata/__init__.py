@@ -1,0 +1,1 @@
+"""Strata: texts in folders, kept in all their versions."""

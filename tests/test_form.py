@@ -1,0 +1,205 @@
+"""The form of the package's files, as far as a walk over their syntax can see it."""
+
+import ast
+import builtins
+import pathlib
+import re
+import unittest
+
+PACKAGE = pathlib.Path(__file__).resolve().parent.parent / "strata"
+
+NODES = """
+    Module FunctionDef ClassDef arguments arg Return Assign AugAssign For While If Raise Try ExceptHandler
+    ImportFrom alias Expr Pass Break Continue BoolOp And Or BinOp Add Sub Mult FloorDiv Mod Pow BitAnd BitOr BitXor
+    LShift RShift UnaryOp Not USub UAdd Invert Lambda IfExp Dict Set ListComp comprehension Compare Eq NotEq Lt LtE
+    Gt GtE Is IsNot In NotIn Call keyword JoinedStr FormattedValue Constant Attribute Subscript Slice Name List Tuple
+    Load Store
+""".split()
+
+OWN_NAMES = """
+    len range enumerate zip min max sum abs sorted reversed int str bool list tuple dict set frozenset isinstance ord
+    repr any all divmod Exception ValueError TypeError KeyError IndexError LookupError ZeroDivisionError
+    ArithmeticError OverflowError RuntimeError NotImplementedError AttributeError StopIteration
+""".split()
+
+OWN_METHODS = """
+    append clear copy count endswith extend find get index insert isalnum isalpha isdigit islower isspace isupper
+    items join keys ljust lower lstrip partition pop remove replace reverse rfind rjust rpartition rsplit rstrip
+    setdefault split splitlines startswith strip update upper values zfill bit_length
+""".split()
+
+WORDS_OUT = re.compile(
+    r"\b(type|typing|typing_extensions|enum|Enum|IntEnum|StrEnum|Flag|IntFlag|Generic|Protocol|ABC|ABCMeta|namedtuple"
+    r"|NamedTuple|TypedDict|TYPE_CHECKING|abstractmethod)\b|dataclass|overload|contextmanager"
+)
+NAMES_OUT = "register mro elements open input version_info with_traceback add_note format format_map".split()
+SPECIAL = ("__init__", "__eq__", "__repr__", "__str__", "__len__")
+
+
+def sources():
+    return sorted(PACKAGE.rglob("*.py"))
+
+
+def parsed():
+    return [(path.name, ast.parse(path.read_text(encoding="utf-8"))) for path in sources()]
+
+
+def nodes():
+    return [(name, node) for name, module in parsed() for node in ast.walk(module)]
+
+
+def defined(module):
+    found = []
+    for statement in module.body:
+        if isinstance(statement, (ast.FunctionDef, ast.ClassDef)):
+            found.append(statement.name)
+        if isinstance(statement, ast.Assign):
+            found.extend([target.id for target in statement.targets])
+    return found
+
+
+def package_methods():
+    classes = [node for file, node in nodes() if isinstance(node, ast.ClassDef)]
+    return [part.name for node in classes for part in node.body if isinstance(part, ast.FunctionDef)]
+
+
+def drawn_from(module):
+    return [statement for statement in module.body if isinstance(statement, ast.ImportFrom)]
+
+
+class TestFiles(unittest.TestCase):
+    def test_the_package_has_files_to_look_at(self):
+        self.assertIn("vaults.py", [path.name for path in sources()])
+
+    def test_nothing_else_lies_in_the_package(self):
+        for path in PACKAGE.rglob("*"):
+            if "__pycache__" not in path.parts:
+                self.assertRegex(path.name, r"\A([a-z][a-z0-9_]*|__init__)\.py\Z")
+
+    def test_signs_and_sizes(self):
+        for path in sources():
+            text = path.read_bytes().decode("ascii")
+            rows = text.split("\n")
+            with self.subTest(file=path.name):
+                self.assertRegex(text, r"\A[\n -~]*\Z")
+                self.assertLessEqual(len(rows), 400)
+                self.assertLessEqual(max([len(row) for row in rows]), 120)
+                self.assertIsNone(WORDS_OUT.search(text))
+
+    def test_functions_are_small(self):
+        for file, node in nodes():
+            if isinstance(node, ast.FunctionDef):
+                self.assertLessEqual(node.end_lineno - node.lineno + 1, 40, f"{file}: {node.name}")
+
+
+class TestImports(unittest.TestCase):
+    def test_names_come_from_the_file_that_defines_them(self):
+        homes = {f"strata.{name[:-3]}": defined(module) for name, module in parsed()}
+        for file, module in parsed():
+            for row in drawn_from(module):
+                self.assertEqual(row.level, 0, file)
+                for alias in row.names:
+                    self.assertIn(alias.name, homes[row.module], file)
+
+    def test_no_two_files_draw_from_one_another(self):
+        left = {f"strata.{name[:-3]}": {row.module for row in drawn_from(module)} for name, module in parsed()}
+        while left:
+            free = [name for name in left if not left[name] & set(left)]
+            self.assertTrue(free, sorted(left))
+            left = {name: left[name] for name in left if name not in free}
+
+    def test_the_top_of_a_file(self):
+        for file, module in parsed():
+            names = defined(module)
+            self.assertIsNotNone(ast.get_docstring(module), file)
+            self.assertEqual(len(names), len(set(names)), file)
+            for statement in module.body[1:]:
+                self.assertIsInstance(statement, (ast.ImportFrom, ast.FunctionDef, ast.ClassDef, ast.Assign), file)
+
+
+class TestSyntax(unittest.TestCase):
+    def test_only_the_small_part_of_the_language(self):
+        for file, node in nodes():
+            self.assertIn(node.__class__.__name__, NODES, f"{file}: {getattr(node, 'lineno', '')}")
+
+    def test_values(self):
+        for file, node in nodes():
+            if isinstance(node, ast.Constant):
+                self.assertIn(node.value.__class__, (int, str, bool, None.__class__), f"{file}: {node.lineno}")
+                self.assertNotIn(chr(37), str(node.value), f"{file}: {node.lineno}")
+
+    def test_functions_and_classes(self):
+        for file, node in nodes():
+            if isinstance(node, (ast.FunctionDef, ast.ClassDef)):
+                self.assertEqual(node.decorator_list, [], f"{file}: {node.name}")
+            if isinstance(node, ast.arguments):
+                self.assertEqual([node.vararg, node.kwarg, node.kwonlyargs, node.posonlyargs], [None, None, [], []])
+            if isinstance(node, ast.ClassDef):
+                self.assertLessEqual(len(node.bases), 1, f"{file}: {node.name}")
+                for statement in node.body:
+                    self.assertIsInstance(statement, (ast.FunctionDef, ast.Pass), f"{file}: {node.name}")
+
+    def test_statements(self):
+        for file, node in nodes():
+            if isinstance(node, ast.Assign):
+                self.assertEqual(len(node.targets), 1, f"{file}: {node.lineno}")
+            if isinstance(node, (ast.For, ast.While)):
+                self.assertEqual(node.orelse, [], f"{file}: {node.lineno}")
+            if isinstance(node, ast.Try):
+                self.assertEqual(node.finalbody, [], f"{file}: {node.lineno}")
+            if isinstance(node, ast.ExceptHandler):
+                self.assertIsNotNone(node.type, f"{file}: {node.lineno}")
+            if isinstance(node, ast.comprehension):
+                self.assertLessEqual(len(node.ifs), 1, file)
+            if isinstance(node, ast.ListComp):
+                self.assertEqual(len(node.generators), 1, f"{file}: {node.lineno}")
+
+    def test_is_stands_beside_none_and_truths(self):
+        for file, node in nodes():
+            if isinstance(node, ast.Compare):
+                for operator, value in zip(node.ops, node.comparators):
+                    if isinstance(operator, (ast.Is, ast.IsNot)):
+                        self.assertIsInstance(value, ast.Constant, f"{file}: {node.lineno}")
+                        self.assertIn(value.value.__class__, (bool, None.__class__), f"{file}: {node.lineno}")
+
+
+class TestNames(unittest.TestCase):
+    def bound(self, module):
+        names = defined(module) + [alias.name for row in drawn_from(module) for alias in row.names]
+        for node in ast.walk(module):
+            if isinstance(node, ast.FunctionDef):
+                names.append(node.name)
+            if isinstance(node, ast.arg):
+                names.append(node.arg)
+            if isinstance(node, ast.Name) and isinstance(node.ctx, ast.Store):
+                names.append(node.id)
+            if isinstance(node, ast.ExceptHandler) and node.name:
+                names.append(node.name)
+        return names
+
+    def test_bound_names_are_plain(self):
+        for file, module in parsed():
+            for name in self.bound(module):
+                if name not in SPECIAL:
+                    self.assertRegex(name, r"\A[A-Za-z][A-Za-z0-9_]*\Z", file)
+                    self.assertNotIn(name, dir(builtins), file)
+                    self.assertNotIn(name, NAMES_OUT, file)
+
+    def test_read_names_are_bound_or_python_s_own(self):
+        for file, module in parsed():
+            known = self.bound(module) + OWN_NAMES
+            for node in ast.walk(module):
+                if isinstance(node, ast.Name):
+                    self.assertIn(node.id, known, f"{file}: {node.lineno}")
+
+    def test_called_methods(self):
+        known = package_methods() + OWN_METHODS
+        for file, node in nodes():
+            if isinstance(node, ast.Call) and isinstance(node.func, ast.Attribute):
+                self.assertIn(node.func.attr, known, f"{file}: {node.lineno}")
+
+    def test_a_value_is_no_method_elsewhere(self):
+        taken = package_methods() + NAMES_OUT
+        for file, node in nodes():
+            if isinstance(node, ast.Attribute) and isinstance(node.ctx, ast.Store):
+                self.assertNotIn(node.attr, taken, f"{file}: {node.lineno}")
