@@ -2,6 +2,9 @@
 
 from strata.vaults import Vault, blob, commit, commit_of, entries_of, text_of, tree
 
+# Numbers without an object in the small vault.
+ABSENT = (-1, -2, -7, -8, 7, 8, -10 ** 14, 10 ** 15 - 1, 10 ** 15, 10 ** 40, -10 ** 5000, 10 ** 5000)
+
 
 def all_told(vault):
     """All that a vault tells of its objects, in the order of their numbers."""

@@ -48,6 +48,25 @@ def nodes():
     return [(name, node) for name, module in parsed() for node in ast.walk(module)]
 
 
+def with_parents():
+    return [(name, part, node) for name, node in nodes() for part in ast.iter_child_nodes(node)]
+
+
+def called(node):
+    return node.func.id if isinstance(node, ast.Call) and isinstance(node.func, ast.Name) else ""
+
+
+def is_walker(node):
+    if isinstance(node, ast.Call) and isinstance(node.func, ast.Attribute):
+        return node.func.attr in ("items", "keys", "values")
+    return called(node) in ("zip", "enumerate", "reversed", "range")
+
+
+def is_join(node):
+    method = node.func if isinstance(node, ast.Call) else None
+    return isinstance(method, ast.Attribute) and method.attr == "join" and isinstance(method.value, ast.Constant)
+
+
 def defined(module):
     found = []
     for statement in module.body:
@@ -161,6 +180,44 @@ class TestSyntax(unittest.TestCase):
                     if isinstance(operator, (ast.Is, ast.IsNot)):
                         self.assertIsInstance(value, ast.Constant, f"{file}: {node.lineno}")
                         self.assertIn(value.value.__class__, (bool, None.__class__), f"{file}: {node.lineno}")
+
+
+class TestUses(unittest.TestCase):
+    def test_what_is_walked_is_walked_at_once(self):
+        takers = "list tuple dict sorted sum any all enumerate zip min max".split()
+        for file, node, parent in with_parents():
+            if is_walker(node):
+                walked = isinstance(parent, (ast.For, ast.comprehension)) and parent.iter is node
+                taken = (called(parent) in takers or is_join(parent)) and parent.args[0] is node
+                self.assertTrue(walked or taken, f"{file}: {node.lineno}")
+
+    def test_sets_are_made_on_the_spot(self):
+        for file, node, parent in with_parents():
+            if called(node) in ("set", "frozenset"):
+                fine = isinstance(parent, (ast.Compare, ast.BinOp)) or called(parent) in ("sorted", "len")
+                self.assertTrue(fine, f"{file}: {node.lineno}")
+            if isinstance(node, ast.Set):
+                self.assertIsInstance(parent, ast.Compare, f"{file}: {node.lineno}")
+
+    def test_keywords(self):
+        allowed = {
+            "sorted": ("key", "reverse"), "min": ("key", "default"), "max": ("key", "default"), "sum": ("start",),
+            "enumerate": ("start",), "zip": ("strict",),
+        }
+        for file, node in nodes():
+            if called(node) in OWN_NAMES:
+                for keyword in node.keywords:
+                    self.assertIn(keyword.arg, allowed.get(called(node), ()), f"{file}: {node.lineno}")
+
+    def test_no_local_is_called_like_an_import_or_a_class(self):
+        for file, module in parsed():
+            taken = [alias.name for row in drawn_from(module) for alias in row.names]
+            taken += [part.name for part in module.body if isinstance(part, ast.ClassDef)]
+            for node in ast.walk(module):
+                if isinstance(node, ast.arg):
+                    self.assertNotIn(node.arg, taken, f"{file}: {node.lineno}")
+                if isinstance(node, ast.Name) and isinstance(node.ctx, ast.Store):
+                    self.assertNotIn(node.id, taken, f"{file}: {node.lineno}")
 
 
 class TestNames(unittest.TestCase):

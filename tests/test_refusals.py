@@ -5,11 +5,10 @@ import unittest
 
 from strata.errors import BadCommit, BadTree, NoObject, StrataError
 from strata.vaults import blob, commit, commit_of, entries_of, text_of, tree
-from tests.helper import all_told, small_vault
+from tests.helper import ABSENT, all_told, small_vault
 
 # Numbers of the small vault.
 BLOB, TREE, COMMIT, LATER, LAST = 0, 1, 4, 5, 6
-ABSENT = (-1, -2, -7, -8, 7, 8, -10 ** 14, 10 ** 15 - 1, 10 ** 15, 10 ** 40, -10 ** 5000, 10 ** 5000)
 
 
 class Refusing(unittest.TestCase):
