@@ -1,4 +1,4 @@
-"""What a name is, and in which order names stand."""
+"""What a name is, in which order names stand, and how a path is made of them."""
 
 LONGEST_NAME = 12
 
@@ -21,3 +21,7 @@ def is_name(text):
 def names_rise(names):
     # Python compares texts as names stand: by their signs' numbers, the shorter ahead of one that begins alike.
     return all([one < other for one, other in zip(names, names[1:])])
+
+
+def joined(path, name):
+    return name if path == "" else path + "/" + name

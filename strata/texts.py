@@ -11,7 +11,7 @@ def merged_text(base, ours, theirs):
     made = []
     conflicts = 0
     for base_part, our_part, their_part in parts_of([lines_of(base), lines_of(ours), lines_of(theirs)]):
-        if is_conflict(base_part, our_part, their_part):
+        if both_changed(base_part, our_part, their_part):
             conflicts += 1
         made.extend(settled(base_part, our_part, their_part))
     return ("".join(made), conflicts)
@@ -39,16 +39,18 @@ def cut(rows, starts, stops):
     return [row[start:stop] for row, start, stop in zip(rows, starts, stops)]
 
 
-def is_conflict(base, ours, theirs):
+def both_changed(base, ours, theirs):
     return ours != base and theirs != base and theirs != ours
 
 
+def changed_side(base, ours, theirs):
+    return theirs if ours == base else ours
+
+
 def settled(base, ours, theirs):
-    if is_conflict(base, ours, theirs):
+    if both_changed(base, ours, theirs):
         return [OURS_MARK] + closed(ours) + [MIDDLE_MARK] + closed(theirs) + [THEIRS_MARK]
-    if ours == base:
-        return theirs
-    return ours
+    return changed_side(base, ours, theirs)
 
 
 def closed(lines):

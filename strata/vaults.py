@@ -36,6 +36,13 @@ class Vault:
             self.objects.append(made)
         return self.numbers[made]
 
+    def copied(self):
+        # What is held can't change, so both may hold the same.
+        made = Vault()
+        made.objects.extend(self.objects)
+        made.numbers.update(self.numbers)
+        return made
+
 
 def blob(vault, text):
     return vault.put(("blob", text))
@@ -50,10 +57,7 @@ def tree(vault, entries):
 
 
 def commit(vault, top, parents, time, message):
-    vault.content(top, "tree")
-    for parent in parents:
-        vault.content(parent, "commit")
-    refuse_wrong_commit(parents, time, message)
+    refuse_wrong_commit(vault, top, parents, time, message)
     return vault.put(("commit", (top, tuple(parents), time, message)))
 
 
@@ -63,6 +67,13 @@ def text_of(vault, number):
 
 def entries_of(vault, number):
     return list(vault.content(number, "tree"))
+
+
+def entries_by_name(vault, number):
+    # None and a blob have no entries, as if a tree without any stood there.
+    if number is None or vault.kind(number) == "blob":
+        return {}
+    return dict(entries_of(vault, number))
 
 
 def commit_of(vault, number):
@@ -78,7 +89,14 @@ def refuse_wrong_names(names):
         raise BadTree("the names don't rise")
 
 
-def refuse_wrong_commit(parents, time, message):
+def refuse_what_is_no_tree(vault, number):
+    vault.content(number, "tree")
+
+
+def refuse_wrong_commit(vault, top, parents, time, message):
+    refuse_what_is_no_tree(vault, top)
+    for parent in parents:
+        vault.content(parent, "commit")
     if len(parents) > MOST_PARENTS:
         raise BadCommit("a commit has at most two parents")
     if len(set(parents)) < len(parents):

@@ -2,6 +2,7 @@
 
 import ast
 import builtins
+import functools
 import pathlib
 import re
 import unittest
@@ -32,14 +33,20 @@ WORDS_OUT = re.compile(
     r"\b(type|typing|typing_extensions|enum|Enum|IntEnum|StrEnum|Flag|IntFlag|Generic|Protocol|ABC|ABCMeta|namedtuple"
     r"|NamedTuple|TypedDict|TYPE_CHECKING|abstractmethod)\b|dataclass|overload|contextmanager"
 )
-NAMES_OUT = "register mro elements open input version_info with_traceback add_note format format_map".split()
+NAMES_OUT = """
+    register mro elements open input version_info with_traceback add_note format format_map attrgetter gc importlib
+    methodcaller os sys
+""".split()
 SPECIAL = ("__init__", "__eq__", "__repr__", "__str__", "__len__")
+CHANGES = "append clear extend insert pop remove reverse setdefault update".split()
+VALUES_FREE = "count index title find get join lower upper split strip copy add".split()
 
 
 def sources():
     return sorted(PACKAGE.rglob("*.py"))
 
 
+@functools.cache
 def parsed():
     return [(path.name, ast.parse(path.read_text(encoding="utf-8"))) for path in sources()]
 
@@ -80,6 +87,45 @@ def defined(module):
 def package_methods():
     classes = [node for file, node in nodes() if isinstance(node, ast.ClassDef)]
     return [part.name for node in classes for part in node.body if isinstance(part, ast.FunctionDef)]
+
+
+@functools.cache
+def classes():
+    return [node.name for file, node in nodes() if isinstance(node, ast.ClassDef)]
+
+
+def of_python_s_own_values():
+    return set().union(*[dir(kind) for kind in (str, int, list, dict, set, bytes)])
+
+
+def named_by_handlers(module):
+    """The nodes by which the handlers of a file name what they take."""
+    handlers = [node.type for node in ast.walk(module) if isinstance(node, ast.ExceptHandler)]
+    return [part for node in handlers for part in (node.elts if isinstance(node, ast.Tuple) else [node])]
+
+
+def walked_names(node):
+    """The names that a loop walks, itself or through enumerate, zip, reversed, items and their like."""
+    if isinstance(node, ast.Name):
+        return [node.id]
+    if isinstance(node, ast.Call) and isinstance(node.func, ast.Attribute) and is_walker(node):
+        return walked_names(node.func.value)
+    if called(node) in ("enumerate", "zip", "reversed"):
+        return [name for part in node.args for name in walked_names(part)]
+    return []
+
+
+def changed_names(node):
+    """The names of what a statement changes in place."""
+    found = []
+    for part in ast.walk(node):
+        if isinstance(part, ast.Subscript) and isinstance(part.ctx, ast.Store):
+            found.append(part.value)
+        if isinstance(part, ast.Call) and isinstance(part.func, ast.Attribute) and part.func.attr in CHANGES:
+            found.append(part.func.value)
+        if isinstance(part, ast.AugAssign):
+            found.append(part.target)
+    return [part.id for part in found if isinstance(part, ast.Name)]
 
 
 def drawn_from(module):
@@ -218,6 +264,112 @@ class TestUses(unittest.TestCase):
                     self.assertNotIn(node.arg, taken, f"{file}: {node.lineno}")
                 if isinstance(node, ast.Name) and isinstance(node.ctx, ast.Store):
                     self.assertNotIn(node.id, taken, f"{file}: {node.lineno}")
+
+    def test_what_a_loop_walks_is_not_changed_in_it(self):
+        for file, node in nodes():
+            if isinstance(node, ast.For):
+                for name in walked_names(node.iter):
+                    changed = [other for statement in node.body for other in changed_names(statement)]
+                    self.assertNotIn(name, changed, f"{file}: {node.lineno}")
+
+    def test_python_s_own_functions_are_called_where_they_stand(self):
+        for file, node, parent in with_parents():
+            if isinstance(node, ast.Name) and hasattr(builtins, node.id):
+                called_here = isinstance(parent, ast.Call) and parent.func is node
+                base = isinstance(parent, ast.ClassDef) or isinstance(parent, ast.keyword) and parent.arg == "key"
+                self.assertTrue(called_here or base, f"{file}: {node.lineno}")
+
+    def test_own_methods_are_called_where_they_stand(self):
+        known = package_methods() + OWN_METHODS
+        for file, node, parent in with_parents():
+            if isinstance(node, ast.Attribute) and node.attr in known and isinstance(node.ctx, ast.Load):
+                self.assertTrue(isinstance(parent, ast.Call) and parent.func is node, f"{file}: {node.lineno}")
+
+    def test_no_keyword_at_a_method_or_an_error_class(self):
+        for file, node in nodes():
+            if isinstance(node, ast.Call) and (isinstance(node.func, ast.Attribute) or called(node) in classes()):
+                self.assertEqual(node.keywords, [], f"{file}: {node.lineno}")
+
+    def test_texts_in_texts_are_plain_names(self):
+        for file, node in nodes():
+            if isinstance(node, ast.FormattedValue):
+                self.assertIsInstance(node.value, ast.Name, f"{file}: {node.lineno}")
+                self.assertIsNone(node.format_spec, f"{file}: {node.lineno}")
+
+    def test_powers_have_a_written_exponent(self):
+        for file, node in nodes():
+            if isinstance(node, ast.BinOp) and isinstance(node.op, ast.Pow):
+                self.assertIsInstance(node.right, ast.Constant, f"{file}: {node.lineno}")
+
+    def test_no_annotations_and_plain_defaults(self):
+        for file, node in nodes():
+            if isinstance(node, ast.FunctionDef):
+                self.assertIsNone(node.returns, f"{file}: {node.name}")
+            if isinstance(node, ast.arg):
+                self.assertIsNone(node.annotation, f"{file}: {node.arg}")
+            if isinstance(node, ast.arguments):
+                for value in node.defaults:
+                    self.assertIsInstance(value, ast.Constant, file)
+
+    def test_names_of_a_file_s_top_have_plain_values(self):
+        for file, module in parsed():
+            for statement in module.body:
+                if isinstance(statement, ast.Assign):
+                    self.assertIsInstance(statement.value, ast.Constant, f"{file}: {statement.lineno}")
+
+    def test_escapes(self):
+        for path in sources():
+            for escape in re.findall(r"\\(.)", path.read_text(encoding="utf-8")):
+                self.assertIn(escape, "nt\\'\"", path.name)
+
+
+class TestClasses(unittest.TestCase):
+    def test_a_class_is_called_or_a_base_or_stands_by_except(self):
+        handled = [node for file, module in parsed() for node in named_by_handlers(module)]
+        for file, node, parent in with_parents():
+            if isinstance(node, ast.Name) and node.id in classes():
+                stands = isinstance(parent, ast.ClassDef) or called(parent) == node.id or node in handled
+                self.assertTrue(stands, f"{file}: {node.lineno}")
+
+    def test_no_method_stands_twice(self):
+        methods = [name for name in package_methods() if name not in SPECIAL]
+        self.assertEqual(len(methods), len(set(methods)))
+
+    def test_names_of_methods_and_values_are_free(self):
+        taken = of_python_s_own_values() - set(object.__dict__)
+        for name in package_methods():
+            if name not in OWN_METHODS + ["add", "discard"]:
+                self.assertNotIn(name, taken - set(SPECIAL))
+        for file, node in nodes():
+            if isinstance(node, ast.Attribute) and isinstance(node.ctx, ast.Store) and node.attr not in VALUES_FREE:
+                self.assertNotIn(node.attr, list(taken) + ["args"], f"{file}: {node.lineno}")
+
+    def test_values_are_given_through_a_local_name(self):
+        for file, module in parsed():
+            for node in ast.walk(module):
+                if isinstance(node, ast.Attribute) and isinstance(node.ctx, ast.Store):
+                    self.assertIsInstance(node.value, ast.Name, f"{file}: {node.lineno}")
+                    self.assertNotIn(node.value.id, defined(module), f"{file}: {node.lineno}")
+
+    def test_an_init_gives_back_nothing_and_no_other_special_method_stands(self):
+        for file, node in nodes():
+            if isinstance(node, ast.FunctionDef) and node.name.startswith("__"):
+                self.assertEqual(node.name, "__init__", file)
+                self.assertFalse([part for part in ast.walk(node) if isinstance(part, ast.Return)], file)
+
+
+class TestErrors(unittest.TestCase):
+    def test_only_errors_of_the_program_s_own_are_taken(self):
+        for file, module in parsed():
+            for node in named_by_handlers(module):
+                self.assertIn(node.id, classes(), f"{file}: {node.lineno}")
+
+    def test_an_error_is_made_on_the_spot(self):
+        for file, node in nodes():
+            if isinstance(node, ast.Raise):
+                self.assertIn(called(node.exc), classes(), f"{file}: {node.lineno}")
+                if node.cause is not None:
+                    self.assertIsInstance(node.cause, (ast.Name, ast.Constant), f"{file}: {node.lineno}")
 
 
 class TestNames(unittest.TestCase):
