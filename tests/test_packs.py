@@ -394,6 +394,12 @@ class TestFirstLines(Refusing):
             if word != "-":
                 self.wrong_behind(f"8 commit 1 {word} 5", known)
 
+    def test_each_sign_that_is_no_figure(self):
+        for sign in [chr(number) for number in range(32, 127) if not 48 <= number <= 57]:
+            for word in (sign, "1" + sign, sign + "1", "1" + sign + "1"):
+                self.wrong(1, [f"{word} blob 1", "|"])
+                self.wrong(1, [f"8 blob {word}", "|"])
+
     def test_numbers_of_fifteen_figures_are_right(self):
         most = "9" * 15
         vault = small_vault()
